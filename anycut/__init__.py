@@ -1,0 +1,1 @@
+"""Anycut: calls that are done in batches."""
