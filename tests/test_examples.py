@@ -5,8 +5,12 @@ import unittest
 from anycut.cuts import (
     first_unlike, is_right, is_right_cut, least_left_out, may_change, play, right_length, wrong_cut,
 )
+from anycut.desks import Desk, SafeDesk
+from anycut.maps import all_maps, do_same, exchanges, idle, least_row, led, map_of, settling
+from anycut.readings import read_rule, read_service
 from anycut.rules import Rule
 from anycut.services import Service, reduced, side
+from anycut.texts import show_rule, show_service
 
 
 class Examples(unittest.TestCase):
@@ -47,3 +51,32 @@ class Examples(unittest.TestCase):
                   first_unlike(flag, last, Rule()),
                   first_unlike(flag, Rule(ranks={"on": 1, "off": 1}), Rule(ranks={"look": -1}))]),
             "[[['off', 'on']], [['look']], [], ([], ['on', 'look', 'off']), None]")
+
+    def test_maps(self):
+        flag = self.flag
+        self.assertEqual(
+            repr([map_of(flag, ["on", "look"]), all_maps(flag), least_row(flag, ["on", "off", "look"]),
+                  do_same(flag, ["look"], []), settling(flag), idle(flag)]),
+            "[[1, 1], [[0, 0], [0, 1], [1, 1]], ['off'], True, ['off', 'on'], ['look']]")
+        self.assertEqual(
+            repr([exchanges(flag), led(flag, ["on", "look", "off"])]),
+            "[[(['look'], []), (['off', 'off'], ['off']), (['off', 'on'], ['on']), (['on', 'off'], ['off']), "
+            "(['on', 'on'], ['on'])], [['on', 'look', 'off'], ['on', 'off'], ['off']]]")
+
+    def test_desks(self):
+        desk, calm = Desk(self.flag, Rule(["look"]), 3), SafeDesk(self.flag, Rule(["look"]))
+        self.assertEqual(
+            repr([desk("on"), desk("look"), desk("off"), desk.is_true, desk.state, desk.cut, desk.undo(),
+                  desk.waiting, len(desk)]),
+            "[None, None, [None, 0, None], False, 0, [['on', 'look', 'off']], None, ['on', 'look'], 0]")
+        self.assertEqual(
+            repr([calm("on"), calm("look"), calm.waiting, calm.done(), calm.answers, calm.is_true]),
+            "[None, [None], ['look'], [1], [None, 1], True]")
+
+    def test_texts_and_readings(self):
+        flag = Service(["off", "look"], [[(0, None), (0, 0)]])
+        self.assertEqual(
+            repr([show_service(flag), read_service("off look; 0/- 0/0") == flag,
+                  show_rule(Rule(["look"], {"off": "a"}, {"b": -2, "c": 0})), show_rule(Rule()),
+                  read_rule("keyed off=a") == Rule(keyed={"off": "a"})]),
+            "['off look; 0/- 0/0', True, 'early look; keyed off=a; ranks b=-2', 'plain', True]")

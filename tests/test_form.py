@@ -21,10 +21,19 @@ DEFINED = {
         "play", "is_right_cut", "wrong_cut", "is_right", "right_length", "first_unlike", "least_left_out",
         "may_change",
     ],
+    "maps": ["map_of", "all_maps", "least_row", "do_same", "exchanges", "led", "settling", "idle"],
+    "desks": ["Desk", "SafeDesk"],
+    "texts": ["show_service", "show_rule"],
+    "readings": ["read_service", "read_rule"],
 }
+DESK = [
+    "__init__", "__call__", "done", "state", "waiting", "cut", "answers", "is_true", "undo", "__len__", "__eq__",
+]
 METHODS = {
     "Service": ["__init__", "calls", "table", "__len__", "__getitem__", "run", "__eq__"],
     "Rule": ["__init__", "early", "keyed", "ranks", "batch", "order", "without", "__eq__"],
+    "Desk": DESK,
+    "SafeDesk": DESK,
 }
 
 
